@@ -61,6 +61,8 @@ class World:
         self.true_time = 0
         self.nodes = [Node() for weight in weights]
         self.row = []
+        # Pairs of a term and who came to lead in it.
+        self.led = []
 
 
 def span_of(wrong, long):

@@ -76,7 +76,7 @@ def get_voted(world, letter):
         return NO_USE
     node.votes.append(letter.sender)
     if is_most(world, node.votes):
-        return lead(node)
+        return lead(world, letter.whom)
     return COUNTED
 
 

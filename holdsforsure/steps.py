@@ -1,7 +1,7 @@
-"""How it goes: what a node does when it wishes, asks, leads, begins a round or lets go."""
+"""How it goes: what a node does when it wishes, asks, leads, begins a round, lets go or begins anew."""
 
 from holdsforsure.parts import ASKS, FOLLOWS, FREE, LEADS, NOBODY, PROMISE, VOTE, WOULD_YOU
-from holdsforsure.parts import Letter, Promise
+from holdsforsure.parts import Letter, Node, Promise
 
 ROOM = 100
 
@@ -21,6 +21,10 @@ def is_bound(node, against):
     if node.promise is None:
         return False
     return node.promise.whom != against and node.clock < node.promise.until
+
+
+def holds_now(node):
+    return node.runs and node.state == LEADS and node.clock < node.holds_until
 
 
 def hear_of_term(node, term):
@@ -70,16 +74,18 @@ def ask(world, place):
     node.holds_until = 0
     send_to_others(world, place, VOTE, node.term, node.rank, NOBODY)
     if is_most(world, node.votes):
-        return lead(node)
+        return lead(world, place)
     return ASKS_NOW
 
 
-def lead(node):
+def lead(world, place):
+    node = world.nodes[place]
     node.state = LEADS
     node.would = None
     node.round_number = 0
     node.given = []
     node.holds_until = 0
+    world.led.append((node.term, place))
     return LEADS_NOW
 
 
@@ -113,3 +119,15 @@ def let_go(world, place, heir):
     if node.promise is not None and node.promise.whom == place:
         node.promise = None
     send_to_others(world, place, FREE, node.term, 0, heir)
+
+
+def begin_anew(world, place):
+    before = world.nodes[place]
+    node = Node()
+    node.clock = before.clock
+    node.term = before.term
+    node.voted = before.voted
+    node.rank = before.rank
+    # What it had promised is forgotten, so it waits for as long as any promise may still run.
+    node.still_until = node.clock + world.long
+    world.nodes[place] = node

@@ -2,7 +2,8 @@
 
 from holdsforsure.parts import LEADS, World, span_of
 from holdsforsure.post import hand_over
-from holdsforsure.steps import begin_round, begin_wish, let_go
+from holdsforsure.reports import report_holding, report_led, report_letters, report_node
+from holdsforsure.steps import begin_anew, begin_round, begin_wish, let_go
 
 BEGIN = 0
 ELAPSE = 1
@@ -12,9 +13,15 @@ LEAVE = 4
 RANK = 5
 TAKE = 6
 KEEP = 7
+LOSE = 8
+STOP = 9
+START = 10
+LETTERS = 11
+NODE = 12
+HOLDS = 13
+LED = 14
 
-# How many whole numbers stand behind each call's own, its row not counted. It tells of
-# all calls of the interface: without a world each of them is passed over with -9.
+# How many whole numbers stand behind each call's own, its row not counted.
 PLAIN_NUMBERS = (2, 1, 1, 1, 2, 2, 1, 1, 1, 1, 1, 0, 1, 0, 0)
 
 DONE = 0
@@ -22,11 +29,6 @@ WRONG = -1
 UNFIT = -2
 STOPPED = -3
 NO_WORLD = -9
-
-
-# A call of the interface that isn't built yet fails aloud where there is a world to ask.
-class NotBuilt(Exception):
-    pass
 
 
 def answers(calls):
@@ -39,15 +41,15 @@ def answers(calls):
         at = end
         if call[0] == BEGIN and begin_is_right(call[1], call[2], call[4:]):
             world = World(call[1], call[2], call[4:])
-            answer = DONE
+            answer = [DONE]
         elif call[0] == BEGIN:
-            answer = WRONG
+            answer = [WRONG]
         elif world is None:
-            answer = NO_WORLD
+            answer = [NO_WORLD]
         else:
             answer = answer_in(world, call)
-        told.append(1)
-        told.append(answer)
+        told.append(len(answer))
+        told.extend(answer)
     return told
 
 
@@ -59,6 +61,18 @@ def end_of_call(calls, at):
 
 
 def answer_in(world, call):
+    if call[0] < LETTERS:
+        return [carry_out(world, call)]
+    if call[0] == LETTERS:
+        return report_letters(world)
+    if call[0] == NODE:
+        return report_node(world.nodes[call[1]]) if call[1] < len(world.nodes) else [WRONG]
+    if call[0] == HOLDS:
+        return report_holding(world)
+    return report_led(world)
+
+
+def carry_out(world, call):
     if call[0] == ELAPSE:
         return elapse(world, call[1], call[3:])
     if call[0] == WISH:
@@ -73,7 +87,11 @@ def answer_in(world, call):
         return take(world, call[1])
     if call[0] == KEEP:
         return keep(world, call[1])
-    raise NotBuilt()
+    if call[0] == LOSE:
+        return lose(world, call[1])
+    if call[0] == STOP:
+        return stop(world, call[1])
+    return start(world, call[1])
 
 
 def begin_is_right(wrong, long, weights):
@@ -151,3 +169,28 @@ def keep(world, place):
     if place >= len(world.row):
         return WRONG
     return hand_over(world, world.row[place])
+
+
+def lose(world, place):
+    if place >= len(world.row):
+        return WRONG
+    world.row.pop(place)
+    return DONE
+
+
+def stop(world, place):
+    if place >= len(world.nodes):
+        return WRONG
+    if not world.nodes[place].runs:
+        return UNFIT
+    world.nodes[place].runs = False
+    return DONE
+
+
+def start(world, place):
+    if place >= len(world.nodes):
+        return WRONG
+    if world.nodes[place].runs:
+        return UNFIT
+    begin_anew(world, place)
+    return DONE

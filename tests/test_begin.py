@@ -5,7 +5,8 @@ import unittest
 from holdsforsure.parts import span_of
 from holdsforsure.world import answers
 from tests.helper import ZERO_HOLDS
-from tests.helper import begin, elapse, keep, last, leave, rank, renew, run, take, wish, world_of
+from tests.helper import begin, elapse, holds, keep, last, leave, led, letters, look, lose, node, rank, renew, run
+from tests.helper import start, stop, take, wish, world_of
 
 
 class Begin(unittest.TestCase):
@@ -56,6 +57,19 @@ class Begin(unittest.TestCase):
                    begin(0, 10, [1, 1, 1]), keep(0), rank(0, 1), elapse(3, [3, 3, 3]), elapse(1, [1, 1]))
         self.assertEqual(told, [0, 7, 0, 2, 1, 0, -1, 0, 3, -1])
 
+    def test_a_second_has_nothing_of_the_old_one(self):
+        old = [begin(100, 60, [1, 1, 1, 2]), rank(1, 3), wish(3), take(0), take(0), take(0), elapse(5, [5] * 4),
+               begin(0, 100, [1, 1, 1])] + ZERO_HOLDS + [elapse(5, [5] * 3), rank(2, 4), stop(1), start(1), stop(2)]
+        for weights in ([1], [1, 1, 1], [1] * 5):
+            new = begin(200, 30, weights)
+            self.assertEqual(look(*old, new), look(new))
+            self.assertEqual(look(*old, new, wish(0), lose(0), stop(0)), look(new, wish(0), lose(0), stop(0)))
+
+    def test_a_refused_one_changes_nothing(self):
+        line = [begin(0, 100, [1, 1, 1])] + ZERO_HOLDS + [stop(2), wish(1)]
+        for refused in (begin(201, 100, [1]), begin(0, 0, [1]), begin(0, 100, []), begin(0, 100, [0, 0])):
+            self.assertEqual(look(*line, refused), look(*line))
+
 
 class AsAtFirst(unittest.TestCase):
     def test_the_world(self):
@@ -84,9 +98,13 @@ class AsAtFirst(unittest.TestCase):
 
 class NoWorld(unittest.TestCase):
     def test_each_call(self):
-        calls = [elapse(1, [1]), elapse(5000, []), wish(0), renew(0), leave(0, 1), rank(0, 20),
-                 take(0), keep(200)]
-        self.assertEqual(run(*calls), [-9] * 8)
+        calls = [elapse(1, [1]), elapse(2000, []), wish(0), renew(0), leave(0, 1), rank(0, 20),
+                 take(0), keep(200), lose(0), stop(9), start(0), letters(), node(0), holds(), led()]
+        self.assertEqual(run(*calls), [-9] * 15)
+        for call in calls:
+            self.assertEqual(run(call), [-9])
+            self.assertEqual(run(call, begin(0, 2000, [1]), call, begin(0, 5, [1]), keep(0)),
+                             [-9, -1, -9, 0, -1])
 
     def test_calls_of_every_shape(self):
         calls = [8, 0, 9, 1, 10, 2, 11, 12, 3, 13, 14, 2, 0]

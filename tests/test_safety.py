@@ -4,11 +4,12 @@ import random
 import unittest
 
 from holdsforsure import world as calls
+from holdsforsure.reports import report_holding, report_led
 from holdsforsure.steps import is_bound
 from tests.helper import LEADS, world_of
 
 LINES = 300
-STEPS = 500
+STEPS = 800
 
 
 def holding(world):
@@ -43,16 +44,23 @@ def step(world, chance, slow):
         calls.renew(world, place)
     elif what < 182:
         calls.leave(world, place, chance.randrange(6))
-    elif what < 199:
+    elif what < 195:
         pass_some_time(world, chance, slow)
-    else:
+    elif what < 196:
+        calls.lose(world, some_letter(world, chance))
+    elif what < 197:
         calls.raise_rank(world, place, chance.randrange(3))
+    elif what < 198:
+        calls.stop(world, place)
+    else:
+        calls.start(world, place)
 
 
 class Safety(unittest.TestCase):
     def watch(self, world, leaders, moment):
         now = holding(world)
         self.assertLessEqual(len(now), 1, moment)
+        self.assertEqual(report_holding(world), [world.true_time, len(now)] + now, moment)
         self.assertLessEqual(len(world.row), 100)
         for place, node in enumerate(world.nodes):
             if node.state == LEADS:
@@ -60,7 +68,7 @@ class Safety(unittest.TestCase):
         return now
 
     def test_two_never_hold(self):
-        held, changes = 0, 0
+        held, changes, anew = 0, 0, 0
         for seed in range(LINES):
             chance = random.Random(seed)
             weights = [1] + [chance.choice((0, 1, 1, 2)) for node in range(chance.randint(2, 4))]
@@ -74,9 +82,19 @@ class Safety(unittest.TestCase):
                 if now:
                     changes += before is not None and before != now
                     before = now
+            self.check_led(world, leaders)
+            anew += sum(node.still_until > 0 for node in world.nodes)
         # It would be easy for nobody ever to hold, or always the same.
         self.assertGreater(held, 20 * LINES)
         self.assertGreater(changes, LINES // 4)
+        self.assertGreater(anew, LINES)
+
+    def check_led(self, world, leaders):
+        told = report_led(world)
+        pairs = list(zip(told[1::2], told[2::2]))
+        self.assertEqual((told[0], len(told)), (len(pairs), 1 + 2 * len(pairs)))
+        self.assertEqual(len(dict(pairs)), len(pairs))
+        self.assertEqual(dict(pairs), leaders)
 
     def test_it_holds_no_longer_than_the_promises(self):
         # Who leads has the slowest clock, the others the fastest: it still lets none of them be free
